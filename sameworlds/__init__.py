@@ -1,0 +1,1 @@
+"""Arrays, the same or not: terms, and claims about them."""
