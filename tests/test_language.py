@@ -1,6 +1,6 @@
-"""The package's files against the rules of LANGUAGE.md that a walk through the syntax can see.
+"""The package's files against a part of LANGUAGE.md: what a walk through the syntax sees easily.
 
-Not seen here: L11, L15's and L18's rules on what is handed on, L19, L22 to L24, and L26 to L28 but for `2 ** n`.
+Looked at, some of them in part: L1 to L8, L10, L12, L14 to L17, L20, L25, L27. The rest is left to the reader.
 """
 
 import ast
@@ -38,6 +38,7 @@ WORDS = re.compile(
     r"\b(type|typing|typing_extensions|enum|Enum|IntEnum|StrEnum|Flag|IntFlag|Generic|Protocol|ABC|ABCMeta|"
     r"namedtuple|NamedTuple|TypedDict|TYPE_CHECKING|abstractmethod)\b|dataclass|overload|contextmanager"
 )
+NOT_AS_NAMES = tuple("attrgetter builtins gc importlib methodcaller os sys".split())
 UNUSED = tuple("register mro elements open input version_info with_traceback add_note format format_map".split())
 
 
@@ -213,6 +214,10 @@ class Language(unittest.TestCase):
         self.for_each_node(self.check_names)
 
     def check_names(self, node):
+        if isinstance(node, ast.Name):
+            self.assertNotIn(node.id, NOT_AS_NAMES)
+        if isinstance(node, ast.Attribute) and node.attr != "__init__":
+            self.assertRegex(node.attr, r"\A[A-Za-z][A-Za-z0-9_]*\Z")
         if isinstance(node, ast.Name) and node.id in vars(builtins):
             self.assertIn(node.id, OWN_NAMES)
         for name in bound(node):
