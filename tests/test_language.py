@@ -1,6 +1,6 @@
 """The package's files against a part of LANGUAGE.md: what a walk through the syntax sees easily.
 
-Looked at, some of them in part: L1 to L8, L10, L12, L14 to L17, L20, L25, L27. The rest is left to the reader.
+Looked at, some of them in part: L1 to L8, L10, L12, L14 to L17, L20, L23 to L25, L27. The rest is left to the reader.
 """
 
 import ast
@@ -39,6 +39,8 @@ WORDS = re.compile(
     r"namedtuple|NamedTuple|TypedDict|TYPE_CHECKING|abstractmethod)\b|dataclass|overload|contextmanager"
 )
 NOT_AS_NAMES = tuple("attrgetter builtins gc importlib methodcaller os sys".split())
+WALKED = tuple("zip enumerate reversed range items keys values".split())
+WALKERS = tuple("list tuple dict sorted sum any all enumerate zip min max".split())
 UNUSED = tuple("register mro elements open input version_info with_traceback add_note format format_map".split())
 
 
@@ -100,6 +102,19 @@ def plain(value, functions):
     if isinstance(value, ast.Dict):
         return all(plain(each, functions) for each in value.keys + value.values)
     return isinstance(value, ast.Name) and value.id in functions
+
+
+def called(node):
+    """The name of the function or method that the node calls, or None."""
+    if not isinstance(node, ast.Call):
+        return None
+    return node.func.attr if isinstance(node.func, ast.Attribute) else getattr(node.func, "id", None)
+
+
+def walked_at_once(tree):
+    """What stands where a walk begins: behind the `in` of a loop, or first in a function that walks."""
+    found = [node.iter for node in ast.walk(tree) if isinstance(node, (ast.For, ast.comprehension))]
+    return found + [node.args[0] for node in ast.walk(tree) if called(node) in WALKERS and node.args]
 
 
 class Language(unittest.TestCase):
@@ -225,6 +240,25 @@ class Language(unittest.TestCase):
             self.assertNotIn(name, UNUSED)
             if not isinstance(node, ast.FunctionDef):
                 self.assertNotIn(name, vars(builtins))
+
+    def test_locals_are_not_called_like_classes_and_imports(self):
+        for path, tree in trees().items():
+            classes = [row.name for row in tree.body if isinstance(row, ast.ClassDef)]
+            for row in tree.body:
+                if isinstance(row, (ast.FunctionDef, ast.ClassDef)):
+                    names = [name for node in ast.walk(row) if node != row for name in bound(node)]
+                    self.assertEqual(set(names) & set(classes + imported(tree)), set(), f"{path.name}:{row.lineno}")
+
+    def test_walked_at_once(self):
+        for path, tree in trees().items():
+            places = walked_at_once(tree)
+            for node in ast.walk(tree):
+                with self.subTest(f"{path.name}:{getattr(node, 'lineno', 1)}"):
+                    if called(node) in WALKED:
+                        self.assertIn(node, places)
+                    # Stricter than L24: the package needs no set.
+                    self.assertNotIsInstance(node, ast.Set)
+                    self.assertNotIn(called(node), ("set", "frozenset"))
 
     def test_methods(self):
         allowed = METHODS + own_methods()

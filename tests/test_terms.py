@@ -2,7 +2,7 @@
 
 import unittest
 
-from helper import GREATEST, ask
+from helper import ARRAY_CALLS, GREATEST, NUMBER_CALLS, ask
 
 # Terms 0 and 1 are numbers, 2 and 3 arrays; each call names terms of the sorts that are meant.
 START = [("number",), ("number",), ("array",), ("array",)]
@@ -15,8 +15,6 @@ GOOD = {
     "pickNumber": (0, 1, 0, 1),
     "pickArray": (0, 1, 2, 3),
 }
-NUMBER_CALLS = ("number", "read", "pickNumber")
-ARRAY_CALLS = ("array", "store", "filled", "pickArray")
 
 
 def with_name(call, at, name):
